@@ -1,0 +1,1 @@
+"""Rules that turn texts, the first that fits, at the first place."""
