@@ -7,6 +7,10 @@ BEGIN = 0
 RULE = 1
 TEXT = 2
 RUN = 3
+READ = 4
+NEXT = 5
+STEPS = 6
+JOINS = 7
 
 
 class UnknownCall(ValueError):
@@ -35,6 +39,14 @@ def answer_next(turning, reader):
         return [turning.give_text(reader.read_row())]
     if call == RUN:
         return [turning.run(reader.read_number())]
+    if call == READ:
+        return turning.tell_text(reader.read_number())
+    if call == NEXT:
+        return [turning.tell_next()]
+    if call == STEPS:
+        return [turning.tell_steps()]
+    if call == JOINS:
+        return [turning.tell_joins()]
     raise UnknownCall(f"no call has the number {call}")
 
 

@@ -19,6 +19,15 @@ class Fit:
         self.place = place
 
 
+def shortens(rule):
+    return len(rule.right) < len(rule.left)
+
+
+def turned(text, rule, place):
+    """The text with the rule's right side put for its left one, which stands at this place."""
+    return text[:place] + rule.right + text[place + len(rule.left):]
+
+
 def next_fit(rules, text, before):
     """The fit that the next step takes, or None.
 

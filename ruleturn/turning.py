@@ -1,13 +1,16 @@
 """Rules and a text that are kept, and the steps that are taken."""
 
-from ruleturn.fitting import Rule, next_fit
+from ruleturn.fitting import Rule, next_fit, shortens, turned
+from ruleturn.joining import do_join
 from ruleturn.rounds import RoundWatch
-from ruleturn.signs import SIGNS_PER_BYTE, written
+from ruleturn.signs import SIGNS_PER_BYTE, read_back, written
 
 LONGEST_SIDE = 32
 MOST_RULES = 64
 LONGEST_TEXT = 8192
 MOST_STEPS = 1000000
+MOST_STEPS_TOLD = 1000000000
+PLACES_PER_RULE = 16384
 
 NOT_OVER = 0
 OVER_NO_FIT = 1
@@ -16,19 +19,26 @@ OVER_BY_LAST = 2
 DONE = 0
 OUT_OF_RANGE = -1
 NO_ROOM = -2
+NO_NEXT_STEP = -1
+NOT_SHORTENING = -2
 
 
 class Turning:
-    """The rules, the text, how the run is over, and how many steps were taken on the text."""
+    """The rules, the text, how the run is over, and how many steps were taken on the text.
+
+    joined is what was told of the rules as they are now by joins, or None.
+    """
 
     def __init__(self):
         self.rules = []
+        self.joined = None
         self.text = ""
         self.over = NOT_OVER
         self.steps = 0
 
     def begin(self):
         self.rules = []
+        self.joined = None
         self.start_anew("")
         return DONE
 
@@ -38,6 +48,7 @@ class Turning:
         if len(self.rules) >= MOST_RULES:
             return NO_ROOM
         self.rules.append(Rule(written(left), written(right), stop == 1))
+        self.joined = None
         return len(self.rules) - 1
 
     def give_text(self, row):
@@ -74,8 +85,7 @@ class Turning:
         return length > LONGEST_TEXT * SIGNS_PER_BYTE
 
     def take_step(self, fit):
-        behind = fit.place + len(fit.rule.left)
-        self.text = self.text[:fit.place] + fit.rule.right + self.text[behind:]
+        self.text = turned(self.text, fit.rule, fit.place)
         self.steps = self.steps + 1
         if fit.rule.last:
             self.over = OVER_BY_LAST
@@ -91,3 +101,33 @@ class Turning:
         walked = ahead % length
         self.steps = self.steps + ahead - walked
         return walked
+
+    def tell_text(self, most):
+        """A list: how long the text is, and its first bytes."""
+        length = len(self.text) // SIGNS_PER_BYTE
+        if most < 1 or most > LONGEST_TEXT:
+            return [length]
+        return [length] + read_back(self.text[:most * SIGNS_PER_BYTE])
+
+    def tell_next(self):
+        if self.over != NOT_OVER:
+            return NO_NEXT_STEP
+        fit = next_fit(self.rules, self.text, None)
+        if fit is None:
+            return NO_NEXT_STEP
+        return PLACES_PER_RULE * fit.number + fit.place // SIGNS_PER_BYTE
+
+    def tell_steps(self):
+        return min(self.steps, MOST_STEPS_TOLD)
+
+    def tell_joins(self):
+        # Kept because it may take long, and may be asked again with the same rules.
+        if self.joined is None:
+            self.joined = self.find_joins()
+        return self.joined
+
+    def find_joins(self):
+        for rule in self.rules:
+            if not shortens(rule):
+                return NOT_SHORTENING
+        return 1 if do_join(self.rules) else 0

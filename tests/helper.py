@@ -20,12 +20,46 @@ def run(count):
     return [3, count]
 
 
-def answered(*calls):
-    """The first number of each answer; every one of these calls answers one number."""
+def read(most):
+    return [4, most]
+
+
+def next_step():
+    return [5]
+
+
+def steps():
+    return [6]
+
+
+def joins():
+    return [7]
+
+
+# What read, next and steps tell, and whether the run is over: all but the rules.
+ALL_TOLD = [read(8192), next_step(), steps(), run(0)]
+
+
+def told(*calls):
+    """The answer of each call, a list of numbers each."""
     given = answers([number for call in calls for number in call])
-    if given[0::2] != [1] * len(calls):
-        raise AssertionError(f"not one number for each call: {given}")
-    return given[1::2]
+    apart = []
+    while given:
+        apart.append(given[1:1 + given[0]])
+        if len(apart[-1]) != given[0] or given[0] < 1:
+            raise AssertionError(f"not as many numbers as was said: {given}")
+        given = given[1 + given[0]:]
+    if len(apart) != len(calls):
+        raise AssertionError(f"not one answer for each call: {apart}")
+    return apart
+
+
+def answered(*calls):
+    """The number that each call answers; every one of these calls answers one number."""
+    apart = told(*calls)
+    if {len(one) for one in apart} - {1}:
+        raise AssertionError(f"not one number for each call: {apart}")
+    return [one[0] for one in apart]
 
 
 def turning_with(rules, content):
@@ -84,3 +118,44 @@ class PlainModel:
             if stop:
                 self.over = 2
         return self.over
+
+    def read(self, most):
+        return [len(self.text), *(self.text[:most] if 1 <= most <= 8192 else b"")]
+
+    def next_step(self):
+        if self.over == 0:
+            for number, (left, right, stop) in enumerate(self.rules):
+                if left in self.text:
+                    return 16384 * number + self.text.index(left)
+        return -1
+
+    def tell_steps(self):
+        return min(self.steps, 10 ** 9)
+
+    def joins(self):
+        sides = [(left, right) for left, right, stop in self.rules]
+        if any(len(right) >= len(left) for left, right in sides):
+            return -2
+        return int(all(plain_rest(sides, one) == plain_rest(sides, other) for one, other in plain_meets(sides)))
+
+
+def plain_rest(sides, content):
+    while True:
+        fitting = [(left, right) for left, right in sides if left in content]
+        if not fitting:
+            return content
+        content = content.replace(*fitting[0], 1)
+
+
+def plain_meets(sides):
+    """Each two texts that come of a text in which two rules meet, found by laying one left side over the other."""
+    for left, right in sides:
+        for other_left, other_right in sides:
+            for place in range(len(left)):
+                over = left[place:place + len(other_left)]
+                if not other_left.startswith(over):
+                    continue
+                whole = left[:place] + other_left + left[place + len(other_left):]
+                # At place 0 the part may not be all of this left side, unless the other one stands within it.
+                if place > 0 or len(other_left) <= len(left):
+                    yield right + whole[len(left):], whole[:place] + other_right + whole[place + len(other_left):]

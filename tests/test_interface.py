@@ -6,7 +6,10 @@ import unittest
 
 from ruleturn.desk import UnknownCall, answers
 from ruleturn.reading import BrokenRow
-from tests.helper import begin, rule, run, text
+from tests.helper import begin, joins, next_step, read, rule, run, steps, text
+
+EVERY_CALL = begin() + rule(b"ab", b"b") + text(b"aab") + run(1) + read(9) + next_step() + steps() + joins()
+EVERY_ANSWER = [1, 0, 1, 0, 1, 0, 1, 0, 3, 2, 97, 98, 1, 0, 1, 1, 1, 1]
 
 
 class InterfaceTest(unittest.TestCase):
@@ -18,6 +21,21 @@ class InterfaceTest(unittest.TestCase):
         calls = [0, 1, 0, 2, 97, 98, 1, 99, 1, 1, 0, 1, 100, 2, 3, 97, 98, 97, 3, 5]
         self.assertEqual(answers(calls), [1, 0, 1, 0, 1, 1, 1, 0, 1, 2])
 
+    def test_all_calls_written_out_number_by_number(self):
+        calls = [0, 1, 0, 2, 97, 98, 1, 98, 2, 3, 97, 97, 98, 3, 1, 4, 9, 5, 6, 7]
+        self.assertEqual(calls, EVERY_CALL)
+        self.assertEqual(answers(calls), EVERY_ANSWER)
+
+    def test_a_line_may_begin_with_any_call(self):
+        for calls, given in (([3, 1], [1, 1]), ([4, 5], [1, 0]), ([5], [1, -1]), ([6], [1, 0]), ([7], [1, 1])):
+            with self.subTest(calls=calls):
+                self.assertEqual(answers(calls), given)
+                self.assertEqual(answers(begin() + calls), [1, 0] + given)
+
+    def test_numbers_of_what_is_told_stand_without_a_count_of_their_own(self):
+        self.assertEqual(answers(text([1, 2]) + read(1) + read(2) + read(3) + read(0) + read(8193)),
+                         [1, 0, 2, 2, 1, 3, 2, 1, 2, 3, 2, 1, 2, 1, 2, 1, 2])
+
     def test_each_answer_has_its_count_before_it(self):
         calls = begin() + rule(b"a", b"b", 2) + rule(b"a", b"b") + text(b"a") + run(-1) + run(1) + run(1)
         self.assertEqual(answers(calls), [1, 0, 1, -1, 1, 0, 1, 0, 1, -1, 1, 0, 1, 1])
@@ -27,12 +45,12 @@ class InterfaceTest(unittest.TestCase):
         self.assertEqual(answers(calls), [1, 0, 1, 0, 1, 0, 1, 2])
 
     def test_answers_are_lists_of_plain_whole_numbers(self):
-        given = answers(begin() + rule(b"a", b"b", 1) + text(b"a") + run(3))
+        given = answers(EVERY_CALL + rule(b"a", b"b", 1) + joins() + next_step() + run(3) + next_step() + steps())
         self.assertIs(type(given), list)
         self.assertEqual({type(number) for number in given}, {int})
 
     def test_list_is_afterwards_as_it_was(self):
-        calls = begin() + rule(b"a", b"bb") + text(b"aaa") + run(3) + begin() + run(1)
+        calls = EVERY_CALL + rule(b"a", b"bb") + text(b"aaa") + run(3) + EVERY_CALL + run(1)
         kept = list(calls)
         answers(calls)
         self.assertEqual(calls, kept)
@@ -44,8 +62,7 @@ class InterfaceTest(unittest.TestCase):
             append = extend = insert = pop = remove = clear = sort = reverse = refuse
             __setitem__ = __delitem__ = __iadd__ = __imul__ = refuse
 
-        calls = Untouchable(begin() + rule(b"a", b"bb") + text(b"aaa") + run(3) + run(1))
-        self.assertEqual(answers(calls), [1, 0, 1, 0, 1, 0, 1, 0, 1, 1])
+        self.assertEqual(answers(Untouchable(EVERY_CALL + run(9))), EVERY_ANSWER + [1, 1])
 
     def test_nothing_is_kept_from_one_time_to_the_next(self):
         calls = begin() + rule(b"a", b"b", 1) + text(b"aa") + run(2) + rule(b"b", b"c")
@@ -56,6 +73,9 @@ class InterfaceTest(unittest.TestCase):
         # Nor without begin: the object is new whenever a list begins.
         self.assertEqual(answers(rule(b"x", b"y")), [1, 0])
         self.assertEqual(answers(run(1)), [1, 1])
+        self.assertEqual(answers(read(9) + next_step() + steps() + joins()), [1, 0, 1, -1, 1, 0, 1, 1])
+        self.assertEqual(answers(EVERY_CALL), EVERY_ANSWER)
+        self.assertEqual(answers(EVERY_CALL), EVERY_ANSWER)
 
     def test_answers_do_not_share_a_list(self):
         self.assertIsNot(answers([]), answers([]))
@@ -63,7 +83,7 @@ class InterfaceTest(unittest.TestCase):
     def test_prints_nothing(self):
         out, err = io.StringIO(), io.StringIO()
         with contextlib.redirect_stdout(out), contextlib.redirect_stderr(err):
-            answers(begin() + rule(b"a", b"b") + text(b"a") + run(2))
+            answers(EVERY_CALL)
         self.assertEqual((out.getvalue(), err.getvalue()), ("", ""))
 
     def test_every_byte_is_told_from_every_other(self):
@@ -84,7 +104,7 @@ class InterfaceTest(unittest.TestCase):
         for calls in ([2, -1], [2, 3, 1, 2], [1, 0, -2, 0], [1, 0, 0, 5, 1]):
             with self.subTest(calls=calls), self.assertRaises(BrokenRow):
                 answers(calls)
-        for calls in ([3], [2], [1], [1, 0, 0]):
+        for calls in ([3], [2], [1], [1, 0, 0], [4]):
             with self.subTest(calls=calls), self.assertRaises(IndexError):
                 answers(calls)
 
@@ -94,6 +114,10 @@ class LargeListTest(unittest.TestCase):
     def test_three_hundred_calls(self):
         calls = begin() + rule(b"", b"") + run(1000000) * 298
         self.assertEqual(answers(calls), [1, 0, 1, 0] + [1, 0] * 298)
+
+    def test_three_hundred_calls_that_tell_the_whole_text(self):
+        content = [place % 256 for place in range(8192)]
+        self.assertEqual(answers(text(content) + read(8192) * 299), [1, 0] + ([8193, 8192] + content) * 299)
 
     def test_three_hundred_begins(self):
         self.assertEqual(answers(begin() * 300), [1, 0] * 300)
